@@ -1,0 +1,34 @@
+// Package hallmark: a volume on a disk that nobody trusts: see DOC.md.
+package hallmark
+
+import (
+	"hallmark/api"
+	"hallmark/digest"
+)
+
+// Digest tells the digest of bytes (P3).
+func Digest(b []byte) [api.Hash]byte { return digest.Of(b) }
+
+// Tag tells the tag of bytes under a key (P4).
+func Tag(key []byte, b []byte) [api.Hash]byte { return digest.Tag(key, b) }
+
+// Build lays an image on a disk (P5).
+func Build(key []byte, salt []byte, image []byte) ([]byte, error) { return nil, nil }
+
+// Volume is a disk that was mounted.
+type Volume struct{}
+
+// Mount looks at a disk's head (P6).
+func Mount(key []byte, disk []byte, cache int) (*Volume, error) { return nil, nil }
+
+// Size tells how many sectors there are (P6).
+func (v *Volume) Size() int { return 0 }
+
+// Read tells a sector (P7).
+func (v *Volume) Read(i int) ([]byte, error) { return nil, nil }
+
+// Poke changes a byte of the disk, behind the volume's back (P8).
+func (v *Volume) Poke(at int, b byte) error { return nil }
+
+// Cost tells what reading has cost so far (P9).
+func (v *Volume) Cost() api.Count { return api.Count{} }
