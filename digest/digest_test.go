@@ -28,6 +28,13 @@ func TestOfNoParts(t *testing.T) {
 	}
 }
 
+func TestMarkIsOfSaltAndSector(t *testing.T) {
+	salt, sector := [8]byte([]byte("saltsalt")), []byte("a sector of this disk")
+	if got, want := Mark(salt, sector), sha256.Sum256([]byte("saltsalta sector of this disk")); got != want {
+		t.Errorf("Mark = %x, want %x", got, want)
+	}
+}
+
 // Lists too long to be laid out in a test: as if so many bytes, all of them in
 // whole blocks, had come in. The last block then is the filling alone.
 func TestFinishTellsEveryByteOfTheLength(t *testing.T) {

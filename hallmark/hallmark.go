@@ -3,6 +3,7 @@ package hallmark
 
 import (
 	"hallmark/api"
+	"hallmark/builder"
 	"hallmark/digest"
 )
 
@@ -13,7 +14,17 @@ func Digest(b []byte) [api.Hash]byte { return digest.Of(b) }
 func Tag(key []byte, b []byte) [api.Hash]byte { return digest.Tag(key, b) }
 
 // Build lays an image on a disk (P5).
-func Build(key []byte, salt []byte, image []byte) ([]byte, error) { return nil, nil }
+func Build(key []byte, salt []byte, image []byte) ([]byte, error) {
+	if len(key) > api.MaxKey || len(salt) != api.SaltSize || !isImage(image) {
+		return nil, api.ErrArg
+	}
+	return builder.Disk(key, [api.SaltSize]byte(salt), image), nil
+}
+
+// isImage tells whether these are whole sectors, neither none nor too many.
+func isImage(b []byte) bool {
+	return len(b) > 0 && len(b) <= api.MaxSectors*api.Sector && len(b)%api.Sector == 0
+}
 
 // Volume is a disk that was mounted.
 type Volume struct{}
