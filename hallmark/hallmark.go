@@ -5,6 +5,7 @@ import (
 	"hallmark/api"
 	"hallmark/builder"
 	"hallmark/digest"
+	"hallmark/reader"
 )
 
 // Digest tells the digest of bytes (P3).
@@ -27,19 +28,30 @@ func isImage(b []byte) bool {
 }
 
 // Volume is a disk that was mounted.
-type Volume struct{}
+type Volume struct {
+	reader *reader.Reader
+}
 
 // Mount looks at a disk's head (P6).
-func Mount(key []byte, disk []byte, cache int) (*Volume, error) { return nil, nil }
+func Mount(key []byte, disk []byte, cache int) (*Volume, error) {
+	if len(key) > api.MaxKey || cache < 0 || cache > api.MaxCache {
+		return nil, api.ErrArg
+	}
+	r, err := reader.Open(key, disk, cache)
+	if err != nil {
+		return nil, err
+	}
+	return &Volume{reader: r}, nil
+}
 
 // Size tells how many sectors there are (P6).
-func (v *Volume) Size() int { return 0 }
+func (v *Volume) Size() int { return v.reader.Size() }
 
 // Read tells a sector (P7).
-func (v *Volume) Read(i int) ([]byte, error) { return nil, nil }
+func (v *Volume) Read(i int) ([]byte, error) { return v.reader.Read(i) }
 
 // Poke changes a byte of the disk, behind the volume's back (P8).
-func (v *Volume) Poke(at int, b byte) error { return nil }
+func (v *Volume) Poke(at int, b byte) error { return v.reader.Poke(at, b) }
 
 // Cost tells what reading has cost so far (P9).
-func (v *Volume) Cost() api.Count { return api.Count{} }
+func (v *Volume) Cost() api.Count { return v.reader.Cost() }
